@@ -4,16 +4,9 @@ import (
 	"fmt"
 	"slices"
 	"testing"
-)
 
-// many returns n numbers, some of which come more than once.
-func many(n int) []int {
-	var l []int
-	for i := range n {
-		l = append(l, i*i*7919%61-30)
-	}
-	return l
-}
+	"wattlework/samples"
+)
 
 // ones returns the places of the ones of n in binary, from the least.
 func ones(n int) []int {
@@ -72,8 +65,8 @@ func binomial(a *tree, rank int) ([]int, bool) {
 func TestTrees(t *testing.T) {
 	for n := range 41 {
 		for m := range 41 {
-			h := Of(many(n)).Join(Of(many(m)))
-			want := slices.Concat(many(n), many(m))
+			h := Of(samples.Many(n)).Join(Of(samples.Many(m)))
+			want := slices.Concat(samples.Many(n), samples.Many(m))
 			slices.Sort(want)
 			checkTrees(t, h, want)
 			for i := range n {
@@ -115,7 +108,7 @@ func TestRanksByHand(t *testing.T) {
 
 // P2: each call of Ranks returns memory of its own, and the heap keeps none of it.
 func TestRanksAreNew(t *testing.T) {
-	h := Of(many(11))
+	h := Of(samples.Many(11))
 	a, b := h.Ranks(), h.Ranks()
 	clear(a[:cap(a)])
 	_ = append(a[:0], 70, 71, 72)

@@ -12,6 +12,7 @@ import (
 	"wattlework/bino"
 	"wattlework/left"
 	"wattlework/pair"
+	"wattlework/samples"
 )
 
 // heap is what the heaps of every package can do.
@@ -92,38 +93,6 @@ func checkSpine(t *testing.T, name string, h left.Heap) {
 	if got, n := h.Spine(), h.Len(); 1<<got > n+1 || (got == 0) != (n == 0) {
 		t.Errorf("%s: Spine %d of %d numbers", name, got, n)
 	}
-}
-
-// samples are the numbers of heaps of several sizes, with the edges of ints among them.
-func samples() [][]int {
-	return [][]int{
-		nil,
-		{},
-		{7},
-		{0},
-		{0, 0},
-		{3, 5},
-		{5, 3},
-		{5, 3, 8, 3},
-		{-4, -4, 2, -4, -4},
-		{api.Greatest, api.Least, 0, -1, 1},
-		{api.Least, api.Least, api.Greatest, api.Greatest},
-		{1, 2, 3, 4, 5, 6, 7, 8},
-		{9, 8, 7, 6, 5, 4, 3, 2, 1},
-		many(31),
-		many(32),
-		many(33),
-		many(100),
-	}
-}
-
-// many returns n numbers, some of which come more than once.
-func many(n int) []int {
-	var l []int
-	for i := range n {
-		l = append(l, i*i*7919%61-30)
-	}
-	return l
 }
 
 // sorted returns the numbers of all the lists, in ascending order.
@@ -207,7 +176,7 @@ func (k kind[H]) ways(numbers []int) map[string]H {
 
 // BI1, LE1, PA1: the numbers of a heap, however it came about.
 func (k kind[H]) testNumbers(t *testing.T) {
-	for _, numbers := range samples() {
+	for _, numbers := range samples.Lists() {
 		for way, h := range k.ways(numbers) {
 			k.check(t, fmt.Sprint(way, numbers), h, numbers)
 		}
@@ -226,7 +195,7 @@ func (k kind[H]) testZeroValue(t *testing.T) {
 
 // BI1, LE1, PA1: a heap that has been emptied, and what comes with false, are empty heaps like any other.
 func (k kind[H]) testEmptied(t *testing.T) {
-	for _, numbers := range samples() {
+	for _, numbers := range samples.Lists() {
 		h := k.of(numbers)
 		for range numbers {
 			_, h, _ = h.Pop()
@@ -289,15 +258,15 @@ func (k kind[H]) testOrders(t *testing.T) {
 func (k kind[H]) testJoin(t *testing.T) {
 	for n := range 41 {
 		for m := range 41 {
-			a, b := many(n), many(m)
+			a, b := samples.Many(n), samples.Many(m)
 			h, other := k.of(a), k.of(b)
 			k.checkHere(t, fmt.Sprintf("%d and %d", n, m), h.Join(other), slices.Concat(a, b))
 			k.checkHere(t, "one", h, a)
 			k.checkHere(t, "other", other, b)
 		}
 	}
-	for _, a := range samples() {
-		for _, b := range samples() {
+	for _, a := range samples.Lists() {
+		for _, b := range samples.Lists() {
 			k.check(t, fmt.Sprint(a, b), k.of(a).Join(k.of(b)), slices.Concat(a, b))
 		}
 	}
@@ -305,7 +274,7 @@ func (k kind[H]) testJoin(t *testing.T) {
 
 // BI1, LE1, PA1: a heap joined with itself, or with one that it was made from, has the numbers of both.
 func (k kind[H]) testJoinItself(t *testing.T) {
-	for _, numbers := range samples() {
+	for _, numbers := range samples.Lists() {
 		h := k.of(numbers)
 		k.check(t, "twice", h.Join(h), slices.Concat(numbers, numbers))
 		four := h.Join(h).Join(h.Join(h))
@@ -382,7 +351,7 @@ func (k kind[H]) testOfKeepsArgument(t *testing.T) {
 
 // P2: each call of Ints returns memory of its own, and the heap keeps none of it.
 func (k kind[H]) testResultsAreNew(t *testing.T) {
-	for _, numbers := range samples() {
+	for _, numbers := range samples.Lists() {
 		h := k.of(numbers)
 		a, b := h.Ints(), h.Ints()
 		before := slices.Clone(b)
@@ -397,7 +366,7 @@ func (k kind[H]) testResultsAreNew(t *testing.T) {
 
 // P2: no method changes its receiver or its argument; two heaps that were made from one do not meet.
 func (k kind[H]) testPersistence(t *testing.T) {
-	for _, numbers := range samples() {
+	for _, numbers := range samples.Lists() {
 		h, fixed := k.of(numbers), k.of([]int{6, 1, 4})
 		_, rest, _ := h.Pop()
 		one, two := h.Push(-1), h.Push(2)

@@ -8,30 +8,8 @@ import (
 	"testing"
 
 	"wattlework/api"
+	"wattlework/samples"
 )
-
-// samples are the numbers of lists of several lengths, with the edges of ints among them.
-func samples() [][]int {
-	return [][]int{
-		nil,
-		{},
-		{7},
-		{0, 0},
-		{5, 3, 8},
-		{-4, -4, 2, -4},
-		{api.Greatest, api.Least, 0, -1, 1},
-		many(100),
-	}
-}
-
-// many returns n numbers, some of which come more than once.
-func many(n int) []int {
-	var l []int
-	for i := range n {
-		l = append(l, i*i*7919%101-50)
-	}
-	return l
-}
 
 // check fails the test unless everything that reads a list finds the wanted numbers in it.
 func check(t *testing.T, name string, l List, want []int) {
@@ -83,7 +61,7 @@ func ways(numbers []int) map[string]List {
 
 // LS1: the numbers of a list, however it came about.
 func TestNumbers(t *testing.T) {
-	for _, numbers := range samples() {
+	for _, numbers := range samples.Lists() {
 		for way, l := range ways(numbers) {
 			check(t, fmt.Sprint(way, numbers), l, numbers)
 		}
@@ -137,7 +115,7 @@ func TestPopZero(t *testing.T) {
 
 // LS1, P1: there is no index below 0 or from Len on, and the number beside false is 0.
 func TestAtOutside(t *testing.T) {
-	for _, numbers := range samples() {
+	for _, numbers := range samples.Lists() {
 		l := Of(numbers)
 		for _, i := range []int{-1, -2, -len(numbers), api.Least, len(numbers), len(numbers) + 1, api.Greatest} {
 			if i == 0 && len(numbers) > 0 {
@@ -201,7 +179,7 @@ func TestAllPulled(t *testing.T) {
 // LS2: Rev has the numbers from the last one on.
 func TestRev(t *testing.T) {
 	check(t, "Rev", Of([]int{5, 3, 8}).Rev(), []int{8, 3, 5})
-	for _, numbers := range samples() {
+	for _, numbers := range samples.Lists() {
 		want := slices.Clone(numbers)
 		slices.Reverse(want)
 		check(t, fmt.Sprint("Rev", numbers), Of(numbers).Rev(), want)
@@ -211,9 +189,9 @@ func TestRev(t *testing.T) {
 // LS2: Join has the list's own numbers in front; a list may be joined to itself.
 func TestJoin(t *testing.T) {
 	check(t, "Join", Of([]int{5, 3, 8}).Join(Of([]int{1})), []int{5, 3, 8, 1})
-	for _, a := range samples() {
+	for _, a := range samples.Lists() {
 		l := Of(a)
-		for _, b := range samples() {
+		for _, b := range samples.Lists() {
 			check(t, fmt.Sprint("Join", a, b), l.Join(Of(b)), slices.Concat(a, b))
 		}
 		check(t, fmt.Sprint("Join to itself", a), l.Join(l), slices.Concat(a, a))
@@ -222,7 +200,7 @@ func TestJoin(t *testing.T) {
 
 // LS2: Each applies f to every number, to a repeated one as well, and once.
 func TestEach(t *testing.T) {
-	for _, numbers := range samples() {
+	for _, numbers := range samples.Lists() {
 		var seen, want []int
 		for _, x := range numbers {
 			want = append(want, 3*x-1)
@@ -247,7 +225,7 @@ func TestKeep(t *testing.T) {
 		func(x int) bool { return x%2 == 0 },
 		func(x int) bool { return x < 0 },
 	}
-	for _, numbers := range samples() {
+	for _, numbers := range samples.Lists() {
 		for i, keep := range keeps {
 			var seen, want []int
 			for _, x := range numbers {
@@ -273,7 +251,7 @@ func TestFold(t *testing.T) {
 		t.Errorf("Fold is %d, want 1538", got)
 	}
 	minus := func(a, b int) int { return 3*a - b }
-	for _, numbers := range samples() {
+	for _, numbers := range samples.Lists() {
 		want := 17
 		for _, x := range numbers {
 			want = minus(want, x)
@@ -335,8 +313,8 @@ func TestIntsIsNew(t *testing.T) {
 
 // P2: no method changes its receiver or its argument, and what was made from a list earlier stays as well.
 func TestPersistence(t *testing.T) {
-	for _, a := range samples() {
-		for _, b := range samples() {
+	for _, a := range samples.Lists() {
+		for _, b := range samples.Lists() {
 			l, m := Of(a), Of(b)
 			_, rest, _ := l.Pop()
 			one, two := l.Push(1), l.Push(2)

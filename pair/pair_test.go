@@ -5,16 +5,9 @@ import (
 	"runtime/debug"
 	"slices"
 	"testing"
-)
 
-// many returns n numbers, some of which come more than once.
-func many(n int) []int {
-	var l []int
-	for i := range n {
-		l = append(l, i*i*7919%61-30)
-	}
-	return l
-}
+	"wattlework/samples"
+)
 
 // checkTree fails the test unless the tree has the wanted numbers, which are in ascending order, and none is less than
 // the one above it.
@@ -44,8 +37,8 @@ func ordered(a *tree) ([]int, bool) {
 func TestTrees(t *testing.T) {
 	for n := range 41 {
 		for m := range 41 {
-			h := Of(many(n)).Join(Of(many(m)))
-			want := slices.Concat(many(n), many(m))
+			h := Of(samples.Many(n)).Join(Of(samples.Many(m)))
+			want := slices.Concat(samples.Many(n), samples.Many(m))
 			slices.Sort(want)
 			checkTree(t, h, want)
 			for i := range n {

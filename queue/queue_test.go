@@ -6,32 +6,8 @@ import (
 	"slices"
 	"testing"
 
-	"wattlework/api"
+	"wattlework/samples"
 )
-
-// samples are the numbers of queues of several lengths, with the edges of ints among them.
-func samples() [][]int {
-	return [][]int{
-		nil,
-		{},
-		{7},
-		{0},
-		{0, 0},
-		{5, 3, 8},
-		{-4, -4, 2, -4},
-		{api.Greatest, api.Least, 0, -1, 1},
-		many(100),
-	}
-}
-
-// many returns n numbers, some of which come more than once.
-func many(n int) []int {
-	var l []int
-	for i := range n {
-		l = append(l, i*i*7919%101-50)
-	}
-	return l
-}
 
 // pushed returns the queue with the numbers added at the end, one by one.
 func pushed(q Queue, numbers ...int) Queue {
@@ -110,7 +86,7 @@ func checkNone(t *testing.T, name string, q Queue) {
 
 // QU1: the numbers of a queue come in the order in which they were pushed.
 func TestNumbers(t *testing.T) {
-	for _, numbers := range samples() {
+	for _, numbers := range samples.Lists() {
 		check(t, fmt.Sprint("pushed", numbers), pushed(Queue{}, numbers...), numbers)
 	}
 }
@@ -138,7 +114,7 @@ func TestZeroValue(t *testing.T) {
 
 // QU1: a queue that has been emptied, and what Pop gives with false, are empty queues like any other.
 func TestEmptied(t *testing.T) {
-	for _, numbers := range samples() {
+	for _, numbers := range samples.Lists() {
 		empty := popped(t, pushed(Queue{}, numbers...), len(numbers))
 		check(t, "emptied", empty, nil)
 		check(t, "emptied and filled", pushed(empty, 6, 2, 7), []int{6, 2, 7})
@@ -215,7 +191,7 @@ func TestHalvesOfOne(t *testing.T) {
 
 // P2: no method changes its receiver; two queues that were made from one do not meet.
 func TestPersistence(t *testing.T) {
-	for _, numbers := range samples() {
+	for _, numbers := range samples.Lists() {
 		q := pushed(Queue{}, numbers...)
 		one, two := pushed(q, 1, 11, 111), pushed(q, 2, 22)
 		rest := popped(t, q, min(2, len(numbers)))
@@ -232,7 +208,7 @@ func TestPersistence(t *testing.T) {
 
 // P2: each call of Ints returns memory of its own, and the queue keeps none of it.
 func TestIntsIsNew(t *testing.T) {
-	for _, numbers := range samples() {
+	for _, numbers := range samples.Lists() {
 		q := pushed(Queue{}, numbers...)
 		a, b := q.Ints(), q.Ints()
 		clear(a)

@@ -7,37 +7,9 @@ import (
 	"testing"
 
 	"wattlework/api"
+	"wattlework/samples"
 	"wattlework/skew"
 )
-
-// samples are the numbers of lists of several lengths, with the edges of ints among them.
-func samples() [][]int {
-	return [][]int{
-		nil,
-		{},
-		{7},
-		{0},
-		{0, 0},
-		{5, 3, 8},
-		{5, 3, 8, 1},
-		{-4, -4, 2, -4},
-		{api.Greatest, api.Least, 0, -1, 1},
-		{9, 8, 7, 6, 5, 4},
-		many(7),
-		many(14),
-		many(37),
-		many(100),
-	}
-}
-
-// many returns n numbers, some of which come more than once.
-func many(n int) []int {
-	var l []int
-	for i := range n {
-		l = append(l, i*i*7919%101-50)
-	}
-	return l
-}
 
 // check fails the test unless everything that reads a list finds the wanted numbers in it, and Pop in turn.
 func check(t *testing.T, name string, l List, want []int) {
@@ -146,7 +118,7 @@ func ways(numbers []int) map[string]List {
 
 // RA1: the numbers of a list, and its trees, however it came about.
 func TestNumbers(t *testing.T) {
-	for _, numbers := range samples() {
+	for _, numbers := range samples.Lists() {
 		for way, l := range ways(numbers) {
 			check(t, fmt.Sprint(way, numbers), l, numbers)
 		}
@@ -165,7 +137,7 @@ func TestZeroValue(t *testing.T) {
 
 // RA1: a list that has been emptied, and what comes with false, are empty lists like any other.
 func TestEmptied(t *testing.T) {
-	for _, numbers := range samples() {
+	for _, numbers := range samples.Lists() {
 		l := Of(numbers)
 		beside, _ := l.Set(len(numbers), 1)
 		for range numbers {
@@ -230,7 +202,7 @@ func TestAllWays(t *testing.T) {
 // RA1: Set replaces the number at every index, by any number, and no other one.
 func TestSet(t *testing.T) {
 	for n := range 70 {
-		numbers := many(n)
+		numbers := samples.Many(n)
 		l := Of(numbers)
 		for i := range numbers {
 			for _, x := range []int{1000, 0, numbers[i], api.Greatest, api.Least} {
@@ -248,7 +220,7 @@ func TestSet(t *testing.T) {
 
 // RA1: a number that was set is taken and set again like any other.
 func TestSetThenMove(t *testing.T) {
-	for _, numbers := range samples() {
+	for _, numbers := range samples.Lists() {
 		for i := range numbers {
 			l, _ := Of(numbers).Set(i, 500)
 			want := set(numbers, i, 500)
@@ -264,7 +236,7 @@ func TestSetThenMove(t *testing.T) {
 
 // RA1, P1: there is no index below 0 or from Len on; beside false are 0 and the empty list.
 func TestOutside(t *testing.T) {
-	for _, numbers := range samples() {
+	for _, numbers := range samples.Lists() {
 		l := Of(numbers)
 		for _, i := range outside(len(numbers)) {
 			if x, has := l.At(i); x != 0 || has {
@@ -326,7 +298,7 @@ func TestOfKeepsArgument(t *testing.T) {
 
 // P2: each call of Ints and of Sizes returns memory of its own, and the list keeps none of it.
 func TestResultsAreNew(t *testing.T) {
-	for _, numbers := range samples() {
+	for _, numbers := range samples.Lists() {
 		l := Of(numbers)
 		for _, call := range []func() []int{l.Ints, l.Sizes} {
 			a, b := call(), call()
@@ -343,7 +315,7 @@ func TestResultsAreNew(t *testing.T) {
 
 // P2: no method changes its receiver; two lists that were made from one do not meet.
 func TestPersistence(t *testing.T) {
-	for _, numbers := range samples() {
+	for _, numbers := range samples.Lists() {
 		l := Of(numbers)
 		_, rest, _ := l.Pop()
 		one, two := l.Push(1), l.Push(2)
