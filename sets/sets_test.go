@@ -10,6 +10,7 @@ import (
 
 	"wattlework/api"
 	"wattlework/avl"
+	"wattlework/red"
 	"wattlework/samples"
 )
 
@@ -33,6 +34,11 @@ type kind[S set[S]] struct {
 // AV1, AV2
 func TestAvl(t *testing.T) {
 	testAll(t, kind[avl.Set]{of: avl.Of, also: checkHeights})
+}
+
+// RB1, RB2
+func TestRed(t *testing.T) {
+	testAll(t, kind[red.Set]{of: red.Of, also: checkColours})
 }
 
 // testAll runs all tests with the sets of one package.
@@ -72,6 +78,37 @@ func checkHeights(t *testing.T, name string, nodes []api.Node) {
 		left, right := height(node.Left), height(node.Right)
 		if node.Mark != 1+max(left, right) || left > right+1 || right > left+1 {
 			t.Errorf("%s: the mark of %d is %d over %d and %d", name, node.Key, node.Mark, left, right)
+		}
+	}
+}
+
+// checkColours fails the test unless the marks are the colours of a red-black tree: 1 for red and 0 for black.
+func checkColours(t *testing.T, name string, nodes []api.Node) {
+	t.Helper()
+	const black, red = 0, 1
+	colour := func(at int) int {
+		if at == -1 {
+			return black
+		}
+		return nodes[at].Mark
+	}
+	if len(nodes) > 0 && colour(0) != black {
+		t.Errorf("%s: the mark of the root is %d", name, colour(0))
+	}
+	// blacks has the number of black nodes on each path from a node down.
+	blacks := map[int]int{-1: 0}
+	for at, node := range slices.Backward(nodes) {
+		left, right := blacks[node.Left], blacks[node.Right]
+		if left != right {
+			t.Errorf("%s: %d is over %d and over %d black ones", name, node.Key, left, right)
+		}
+		switch {
+		case node.Mark == black:
+			blacks[at] = left + 1
+		case node.Mark != red || colour(node.Left) == red || colour(node.Right) == red:
+			t.Errorf("%s: the mark of %d is %d over %d and %d", name, node.Key, node.Mark, colour(node.Left), colour(node.Right))
+		default:
+			blacks[at] = left
 		}
 	}
 }
@@ -186,7 +223,7 @@ func (k kind[S]) ways(numbers []int) map[string]S {
 	}
 }
 
-// AV1, AV2: the numbers of a set and their tree, however the set came about.
+// AV1, AV2, RB1, RB2: the numbers of a set and their tree, however the set came about.
 func (k kind[S]) testNumbers(t *testing.T) {
 	for _, numbers := range samples.Lists() {
 		for way, s := range k.ways(numbers) {
@@ -200,7 +237,7 @@ func (k kind[S]) testNumbers(t *testing.T) {
 	}
 }
 
-// AV1: the zero value is an empty set like any other.
+// AV1, RB1: the zero value is an empty set like any other.
 func (k kind[S]) testZeroValue(t *testing.T) {
 	var s S
 	k.check(t, "zero", s, nil)
@@ -210,7 +247,7 @@ func (k kind[S]) testZeroValue(t *testing.T) {
 	k.check(t, "dropped and put", s.Drop(4).Put(4), []int{4})
 }
 
-// AV1: a set that has been emptied is an empty set like any other, in whatever order its numbers were dropped.
+// AV1, RB1: a set that has been emptied is an empty set like any other, in whatever order its numbers were dropped.
 func (k kind[S]) testEmptied(t *testing.T) {
 	for _, numbers := range samples.Lists() {
 		turned := slices.Clone(numbers)
@@ -227,7 +264,7 @@ func (k kind[S]) testEmptied(t *testing.T) {
 	}
 }
 
-// AV1: a set with x is the same with x.
+// AV1, RB1: a set with x is the same with x.
 func (k kind[S]) testThereAlready(t *testing.T) {
 	for _, numbers := range samples.Lists() {
 		s := k.of(numbers)
@@ -238,7 +275,7 @@ func (k kind[S]) testThereAlready(t *testing.T) {
 	}
 }
 
-// AV1: a set without x is the same without x.
+// AV1, RB1: a set without x is the same without x.
 func (k kind[S]) testNotThere(t *testing.T) {
 	for _, numbers := range samples.Lists() {
 		s := k.of(numbers)
@@ -252,7 +289,7 @@ func (k kind[S]) testNotThere(t *testing.T) {
 	}
 }
 
-// AV1, AV2: the order in which numbers are put and dropped does not matter.
+// AV1, AV2, RB1, RB2: the order in which numbers are put and dropped does not matter.
 func (k kind[S]) testOrders(t *testing.T) {
 	order := []int{1, 2, 3, 4, 5, 6, 7}
 	whole := k.of(order)
@@ -270,7 +307,7 @@ func (k kind[S]) testOrders(t *testing.T) {
 	walk(0, none, whole)
 }
 
-// AV1, AV2: every tree of some of 8 numbers that any puts and drops lead to, and each further one from there.
+// AV1, AV2, RB1, RB2: every tree of some of 8 numbers that any puts and drops lead to, and each further one from there.
 func (k kind[S]) testAllShapes(t *testing.T) {
 	const most = 8
 	var none S
@@ -300,7 +337,7 @@ func (k kind[S]) testAllShapes(t *testing.T) {
 	}
 }
 
-// AV1, AV2: a long line of sets, of which each is made from the one before, and all of which stay as they were.
+// AV1, AV2, RB1, RB2: a long line of sets, of which each is made from the one before, and all of which stay as they were.
 func (k kind[S]) testLongLine(t *testing.T) {
 	const steps, numbers = 3000, 400
 	var s S
