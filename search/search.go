@@ -23,6 +23,20 @@ func Distinct(l []int) []int {
 	return slices.Compact(sorted)
 }
 
+// Over makes a tree of a number and of the trees below it. The package that keeps trees balanced may turn them about; it
+// has to, as Put and Drop call themselves all the way down a path, which must not be long.
+type Over func(x int, left, right *Tree) *Tree
+
+// Halved returns the tree of numbers that are in ascending order, in which the sizes of the trees below each number
+// differ by at most 1.
+func Halved(numbers []int, over Over) *Tree {
+	if len(numbers) == 0 {
+		return nil
+	}
+	half := len(numbers) / 2
+	return over(numbers[half], Halved(numbers[:half], over), Halved(numbers[half+1:], over))
+}
+
 // Has reports whether x is in the tree.
 func (t *Tree) Has(x int) bool {
 	for t != nil && t.Key != x {
@@ -41,6 +55,35 @@ func (t *Tree) Least() int {
 		t = t.Left
 	}
 	return t.Key
+}
+
+// Put returns the tree with x, which it does not have yet. Only what is above x is made anew.
+func (t *Tree) Put(x int, over Over) *Tree {
+	switch {
+	case t == nil:
+		return over(x, nil, nil)
+	case x < t.Key:
+		return over(t.Key, t.Left.Put(x, over), t.Right)
+	default:
+		return over(t.Key, t.Left, t.Right.Put(x, over))
+	}
+}
+
+// Drop returns the tree without x, which it has. Only what is above x, or above the number that comes in its place, is
+// made anew.
+func (t *Tree) Drop(x int, over Over) *Tree {
+	switch {
+	case x < t.Key:
+		return over(t.Key, t.Left.Drop(x, over), t.Right)
+	case x > t.Key:
+		return over(t.Key, t.Left, t.Right.Drop(x, over))
+	case t.Left == nil:
+		return t.Right
+	case t.Right == nil:
+		return t.Left
+	}
+	next := t.Right.Least()
+	return over(next, t.Left, t.Right.Drop(next, over))
 }
 
 // Ints returns all numbers, in ascending order.

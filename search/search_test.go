@@ -7,6 +7,7 @@ import (
 	"testing"
 
 	"wattlework/api"
+	"wattlework/samples"
 )
 
 // trees calls f with every tree of numbers that are in ascending order.
@@ -40,7 +41,7 @@ func nodes(t *Tree, before int) []api.Node {
 	return slices.Concat([]api.Node{node}, left, right)
 }
 
-// AV1, AV2, RB1, RB2: what is read from every tree of up to 6 numbers.
+// AV1, AV2, RB1, RB2, WB1, WB2: what is read from every tree of up to 6 numbers.
 func TestTrees(t *testing.T) {
 	all := []int{api.Least, -3, 0, 4, 5, api.Greatest}
 	for n := range len(all) + 1 {
@@ -99,7 +100,7 @@ func TestDeep(t *testing.T) {
 	}
 }
 
-// AV1, RB1, P2: the numbers of a list once each, and the list as it was.
+// AV1, RB1, WB1, P2: the numbers of a list once each, and the list as it was.
 func TestDistinct(t *testing.T) {
 	for _, test := range []struct{ l, want []int }{
 		{nil, nil},
@@ -116,6 +117,75 @@ func TestDistinct(t *testing.T) {
 		clear(got)
 		if !slices.Equal(test.l, before) {
 			t.Errorf("the argument is changed: %v, want %v", test.l, before)
+		}
+	}
+}
+
+// AV1, AV2, WB1, WB2: the numbers of a list, in a tree whose sides have nearly the same size everywhere.
+func TestHalved(t *testing.T) {
+	for n := range 70 {
+		numbers := samples.Rising(n)
+		tree := Halved(numbers, func(x int, left, right *Tree) *Tree {
+			if one, two := len(left.Ints()), len(right.Ints()); one > two+1 || two > one+1 {
+				t.Errorf("%d of %d numbers on the left of %d, and %d on the right", one, n, x, two)
+			}
+			return over(x, left, right)
+		})
+		if !slices.Equal(numbers, samples.Rising(n)) {
+			t.Errorf("the argument is changed: %v", numbers)
+		}
+		clear(numbers)
+		if got := tree.Ints(); !slices.Equal(got, samples.Rising(n)) {
+			t.Errorf("Ints %v of %d numbers", got, n)
+		}
+	}
+}
+
+// over makes a tree without turning anything about.
+func over(x int, left, right *Tree) *Tree {
+	return &Tree{Key: x, Left: left, Right: right}
+}
+
+// AV1, WB1, P2: what is put into every tree of up to 5 numbers, and what is dropped, which leaves the tree as it was.
+func TestPutDrop(t *testing.T) {
+	all := []int{api.Least, -3, 0, 4, api.Greatest}
+	for n := range len(all) + 1 {
+		numbers := all[:n]
+		trees(numbers, func(tree *Tree) {
+			shape := tree.Shape()
+			for _, x := range []int{api.Least, api.Least + 1, -3, -1, 0, 1, 4, 5, api.Greatest - 1, api.Greatest} {
+				at, is := slices.BinarySearch(numbers, x)
+				var got *Tree
+				want := slices.Clone(numbers)
+				if is {
+					got, want = tree.Drop(x, over), slices.Delete(want, at, at+1)
+				} else {
+					got, want = tree.Put(x, over), slices.Insert(want, at, x)
+				}
+				if !slices.Equal(got.Ints(), want) {
+					t.Errorf("%d leads from %v to %v", x, shape, got.Shape())
+				}
+				if !slices.Equal(tree.Shape(), shape) {
+					t.Errorf("%v has become %v", shape, tree.Shape())
+				}
+			}
+		})
+	}
+}
+
+// P2: trees share all that is not above what is put, or dropped.
+func TestSharing(t *testing.T) {
+	tree := Halved(samples.Rising(1000), over)
+	for _, x := range samples.Rising(1000) {
+		made := 0
+		count := func(x int, left, right *Tree) *Tree {
+			made++
+			return over(x, left, right)
+		}
+		tree.Drop(x, over).Put(x, count)
+		tree.Drop(x, count)
+		if made > 20 {
+			t.Errorf("%d trees are made to drop %d and to put it", made, x)
 		}
 	}
 }
