@@ -12,6 +12,7 @@ import (
 	"wattlework/avl"
 	"wattlework/red"
 	"wattlework/samples"
+	"wattlework/wbt"
 )
 
 // set is what the sets of every package can do.
@@ -39,6 +40,11 @@ func TestAvl(t *testing.T) {
 // RB1, RB2
 func TestRed(t *testing.T) {
 	testAll(t, kind[red.Set]{of: red.Of, also: checkColours})
+}
+
+// WB1, WB2
+func TestWbt(t *testing.T) {
+	testAll(t, kind[wbt.Set]{of: wbt.Of, also: checkWeights})
 }
 
 // testAll runs all tests with the sets of one package.
@@ -109,6 +115,23 @@ func checkColours(t *testing.T, name string, nodes []api.Node) {
 			t.Errorf("%s: the mark of %d is %d over %d and %d", name, node.Key, node.Mark, colour(node.Left), colour(node.Right))
 		default:
 			blacks[at] = left
+		}
+	}
+}
+
+// checkWeights fails the test unless each mark is the size of its node's tree, whose subtrees do not differ too much.
+func checkWeights(t *testing.T, name string, nodes []api.Node) {
+	t.Helper()
+	size := func(at int) int {
+		if at == -1 {
+			return 0
+		}
+		return nodes[at].Mark
+	}
+	for _, node := range slices.Backward(nodes) {
+		left, right := size(node.Left), size(node.Right)
+		if node.Mark != left+1+right || left+1 > 3*(right+1) || right+1 > 3*(left+1) {
+			t.Errorf("%s: the mark of %d is %d over %d and %d", name, node.Key, node.Mark, left, right)
 		}
 	}
 }
@@ -223,7 +246,7 @@ func (k kind[S]) ways(numbers []int) map[string]S {
 	}
 }
 
-// AV1, AV2, RB1, RB2: the numbers of a set and their tree, however the set came about.
+// AV1, AV2, RB1, RB2, WB1, WB2: the numbers of a set and their tree, however the set came about.
 func (k kind[S]) testNumbers(t *testing.T) {
 	for _, numbers := range samples.Lists() {
 		for way, s := range k.ways(numbers) {
@@ -237,7 +260,7 @@ func (k kind[S]) testNumbers(t *testing.T) {
 	}
 }
 
-// AV1, RB1: the zero value is an empty set like any other.
+// AV1, RB1, WB1: the zero value is an empty set like any other.
 func (k kind[S]) testZeroValue(t *testing.T) {
 	var s S
 	k.check(t, "zero", s, nil)
@@ -247,7 +270,7 @@ func (k kind[S]) testZeroValue(t *testing.T) {
 	k.check(t, "dropped and put", s.Drop(4).Put(4), []int{4})
 }
 
-// AV1, RB1: a set that has been emptied is an empty set like any other, in whatever order its numbers were dropped.
+// AV1, RB1, WB1: a set that has been emptied is an empty set like any other, in whatever order its numbers were dropped.
 func (k kind[S]) testEmptied(t *testing.T) {
 	for _, numbers := range samples.Lists() {
 		turned := slices.Clone(numbers)
@@ -264,7 +287,7 @@ func (k kind[S]) testEmptied(t *testing.T) {
 	}
 }
 
-// AV1, RB1: a set with x is the same with x.
+// AV1, RB1, WB1: a set with x is the same with x.
 func (k kind[S]) testThereAlready(t *testing.T) {
 	for _, numbers := range samples.Lists() {
 		s := k.of(numbers)
@@ -275,7 +298,7 @@ func (k kind[S]) testThereAlready(t *testing.T) {
 	}
 }
 
-// AV1, RB1: a set without x is the same without x.
+// AV1, RB1, WB1: a set without x is the same without x.
 func (k kind[S]) testNotThere(t *testing.T) {
 	for _, numbers := range samples.Lists() {
 		s := k.of(numbers)
@@ -289,7 +312,7 @@ func (k kind[S]) testNotThere(t *testing.T) {
 	}
 }
 
-// AV1, AV2, RB1, RB2: the order in which numbers are put and dropped does not matter.
+// AV1, AV2, RB1, RB2, WB1, WB2: the order in which numbers are put and dropped does not matter.
 func (k kind[S]) testOrders(t *testing.T) {
 	order := []int{1, 2, 3, 4, 5, 6, 7}
 	whole := k.of(order)
@@ -307,7 +330,8 @@ func (k kind[S]) testOrders(t *testing.T) {
 	walk(0, none, whole)
 }
 
-// AV1, AV2, RB1, RB2: every tree of some of 8 numbers that any puts and drops lead to, and each further one from there.
+// AV1, AV2, RB1, RB2, WB1, WB2: every tree of some of 8 numbers that any puts and drops lead to, and each further one
+// from there.
 func (k kind[S]) testAllShapes(t *testing.T) {
 	const most = 8
 	var none S
@@ -337,7 +361,8 @@ func (k kind[S]) testAllShapes(t *testing.T) {
 	}
 }
 
-// AV1, AV2, RB1, RB2: a long line of sets, of which each is made from the one before, and all of which stay as they were.
+// AV1, AV2, RB1, RB2, WB1, WB2: a long line of sets, of which each is made from the one before, and all of which stay as
+// they were.
 func (k kind[S]) testLongLine(t *testing.T) {
 	const steps, numbers = 3000, 400
 	var s S
