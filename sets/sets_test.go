@@ -12,6 +12,7 @@ import (
 	"wattlework/avl"
 	"wattlework/red"
 	"wattlework/samples"
+	"wattlework/treap"
 	"wattlework/wbt"
 )
 
@@ -45,6 +46,11 @@ func TestRed(t *testing.T) {
 // WB1, WB2
 func TestWbt(t *testing.T) {
 	testAll(t, kind[wbt.Set]{of: wbt.Of, also: checkWeights})
+}
+
+// TP1, TP2
+func TestTreap(t *testing.T) {
+	testAll(t, kind[treap.Set]{of: treap.Of, also: checkPriorities})
 }
 
 // testAll runs all tests with the sets of one package.
@@ -132,6 +138,26 @@ func checkWeights(t *testing.T, name string, nodes []api.Node) {
 		left, right := size(node.Left), size(node.Right)
 		if node.Mark != left+1+right || left+1 > 3*(right+1) || right+1 > 3*(left+1) {
 			t.Errorf("%s: the mark of %d is %d over %d and %d", name, node.Key, node.Mark, left, right)
+		}
+	}
+}
+
+// checkPriorities fails the test unless each mark is the priority of its node, which is not above one of greater
+// priority, nor above one of the same priority and a lesser number.
+func checkPriorities(t *testing.T, name string, nodes []api.Node) {
+	t.Helper()
+	for _, node := range nodes {
+		if node.Mark != api.Prio(node.Key) {
+			t.Errorf("%s: the mark of %d is %d", name, node.Key, node.Mark)
+		}
+		for _, at := range []int{node.Left, node.Right} {
+			if at == -1 {
+				continue
+			}
+			below := nodes[at]
+			if below.Mark > node.Mark || below.Mark == node.Mark && below.Key < node.Key {
+				t.Errorf("%s: %d is above %d, with priorities %d and %d", name, node.Key, below.Key, node.Mark, below.Mark)
+			}
 		}
 	}
 }
@@ -246,7 +272,7 @@ func (k kind[S]) ways(numbers []int) map[string]S {
 	}
 }
 
-// AV1, AV2, RB1, RB2, WB1, WB2: the numbers of a set and their tree, however the set came about.
+// AV1, AV2, RB1, RB2, WB1, WB2, TP1, TP2: the numbers of a set and their tree, however the set came about.
 func (k kind[S]) testNumbers(t *testing.T) {
 	for _, numbers := range samples.Lists() {
 		for way, s := range k.ways(numbers) {
@@ -260,7 +286,7 @@ func (k kind[S]) testNumbers(t *testing.T) {
 	}
 }
 
-// AV1, RB1, WB1: the zero value is an empty set like any other.
+// AV1, RB1, WB1, TP1: the zero value is an empty set like any other.
 func (k kind[S]) testZeroValue(t *testing.T) {
 	var s S
 	k.check(t, "zero", s, nil)
@@ -270,7 +296,8 @@ func (k kind[S]) testZeroValue(t *testing.T) {
 	k.check(t, "dropped and put", s.Drop(4).Put(4), []int{4})
 }
 
-// AV1, RB1, WB1: a set that has been emptied is an empty set like any other, in whatever order its numbers were dropped.
+// AV1, RB1, WB1, TP1: a set that has been emptied is an empty set like any other, in whatever order its numbers were
+// dropped.
 func (k kind[S]) testEmptied(t *testing.T) {
 	for _, numbers := range samples.Lists() {
 		turned := slices.Clone(numbers)
@@ -287,7 +314,7 @@ func (k kind[S]) testEmptied(t *testing.T) {
 	}
 }
 
-// AV1, RB1, WB1: a set with x is the same with x.
+// AV1, RB1, WB1, TP1: a set with x is the same with x.
 func (k kind[S]) testThereAlready(t *testing.T) {
 	for _, numbers := range samples.Lists() {
 		s := k.of(numbers)
@@ -298,7 +325,7 @@ func (k kind[S]) testThereAlready(t *testing.T) {
 	}
 }
 
-// AV1, RB1, WB1: a set without x is the same without x.
+// AV1, RB1, WB1, TP1: a set without x is the same without x.
 func (k kind[S]) testNotThere(t *testing.T) {
 	for _, numbers := range samples.Lists() {
 		s := k.of(numbers)
@@ -312,7 +339,7 @@ func (k kind[S]) testNotThere(t *testing.T) {
 	}
 }
 
-// AV1, AV2, RB1, RB2, WB1, WB2: the order in which numbers are put and dropped does not matter.
+// AV1, AV2, RB1, RB2, WB1, WB2, TP1, TP2: the order in which numbers are put and dropped does not matter.
 func (k kind[S]) testOrders(t *testing.T) {
 	order := []int{1, 2, 3, 4, 5, 6, 7}
 	whole := k.of(order)
@@ -330,8 +357,8 @@ func (k kind[S]) testOrders(t *testing.T) {
 	walk(0, none, whole)
 }
 
-// AV1, AV2, RB1, RB2, WB1, WB2: every tree of some of 8 numbers that any puts and drops lead to, and each further one
-// from there.
+// AV1, AV2, RB1, RB2, WB1, WB2, TP1, TP2: every tree of some of 8 numbers that any puts and drops lead to, and each
+// further one from there.
 func (k kind[S]) testAllShapes(t *testing.T) {
 	const most = 8
 	var none S
@@ -361,8 +388,8 @@ func (k kind[S]) testAllShapes(t *testing.T) {
 	}
 }
 
-// AV1, AV2, RB1, RB2, WB1, WB2: a long line of sets, of which each is made from the one before, and all of which stay as
-// they were.
+// AV1, AV2, RB1, RB2, WB1, WB2, TP1, TP2: a long line of sets, of which each is made from the one before, and all of
+// which stay as they were.
 func (k kind[S]) testLongLine(t *testing.T) {
 	const steps, numbers = 3000, 400
 	var s S
