@@ -2,6 +2,8 @@
 package samples
 
 import (
+	"slices"
+
 	"wattlework/api"
 )
 
@@ -48,4 +50,15 @@ func Rising(n int) []int {
 		l[i] = i
 	}
 	return l
+}
+
+// Near returns the numbers with their neighbours, and the edges of ints, once each in ascending order.
+func Near(numbers []int) []int {
+	all := []int{0, api.Least, api.Greatest}
+	for _, x := range numbers {
+		// The neighbours of the edges of ints are those of the other edge.
+		all = append(all, x-1, x, x+1)
+	}
+	slices.Sort(all)
+	return slices.Compact(all)
 }

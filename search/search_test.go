@@ -41,7 +41,7 @@ func nodes(t *Tree, before int) []api.Node {
 	return slices.Concat([]api.Node{node}, left, right)
 }
 
-// AV1, AV2, RB1, RB2, WB1, WB2, TP1, TP2: what is read from every tree of up to 6 numbers.
+// AV1, AV2, RB1, RB2, WB1, WB2, TP1, TP2, SP1, SP2: what is read from every tree of up to 6 numbers.
 func TestTrees(t *testing.T) {
 	all := []int{api.Least, -3, 0, 4, 5, api.Greatest}
 	for n := range len(all) + 1 {
@@ -100,7 +100,7 @@ func TestDeep(t *testing.T) {
 	}
 }
 
-// AV1, RB1, WB1, TP1, P2: the numbers of a list once each, and the list as it was.
+// AV1, RB1, WB1, TP1, SP1, P2: the numbers of a list once each, and the list as it was.
 func TestDistinct(t *testing.T) {
 	for _, test := range []struct{ l, want []int }{
 		{nil, nil},
@@ -121,7 +121,7 @@ func TestDistinct(t *testing.T) {
 	}
 }
 
-// AV1, AV2, WB1, WB2: the numbers of a list, in a tree whose sides have nearly the same size everywhere.
+// AV1, AV2, WB1, WB2, SP1, SP2: the numbers of a list, in a tree whose sides have nearly the same size everywhere.
 func TestHalved(t *testing.T) {
 	for n := range 70 {
 		numbers := samples.Rising(n)

@@ -12,6 +12,7 @@ import (
 	"wattlework/avl"
 	"wattlework/red"
 	"wattlework/samples"
+	"wattlework/splay"
 	"wattlework/treap"
 	"wattlework/wbt"
 )
@@ -51,6 +52,11 @@ func TestWbt(t *testing.T) {
 // TP1, TP2
 func TestTreap(t *testing.T) {
 	testAll(t, kind[treap.Set]{of: treap.Of, also: checkPriorities})
+}
+
+// SP1, SP2
+func TestSplay(t *testing.T) {
+	testAll(t, kind[splay.Set]{of: splay.Of, also: checkUnmarked})
 }
 
 // testAll runs all tests with the sets of one package.
@@ -158,6 +164,16 @@ func checkPriorities(t *testing.T, name string, nodes []api.Node) {
 			if below.Mark > node.Mark || below.Mark == node.Mark && below.Key < node.Key {
 				t.Errorf("%s: %d is above %d, with priorities %d and %d", name, node.Key, below.Key, node.Mark, below.Mark)
 			}
+		}
+	}
+}
+
+// checkUnmarked fails the test unless all marks are 0.
+func checkUnmarked(t *testing.T, name string, nodes []api.Node) {
+	t.Helper()
+	for _, node := range nodes {
+		if node.Mark != 0 {
+			t.Errorf("%s: the mark of %d is %d", name, node.Key, node.Mark)
 		}
 	}
 }
@@ -272,7 +288,7 @@ func (k kind[S]) ways(numbers []int) map[string]S {
 	}
 }
 
-// AV1, AV2, RB1, RB2, WB1, WB2, TP1, TP2: the numbers of a set and their tree, however the set came about.
+// AV1, AV2, RB1, RB2, WB1, WB2, TP1, TP2, SP1, SP2: the numbers of a set and their tree, however the set came about.
 func (k kind[S]) testNumbers(t *testing.T) {
 	for _, numbers := range samples.Lists() {
 		for way, s := range k.ways(numbers) {
@@ -286,7 +302,7 @@ func (k kind[S]) testNumbers(t *testing.T) {
 	}
 }
 
-// AV1, RB1, WB1, TP1: the zero value is an empty set like any other.
+// AV1, RB1, WB1, TP1, SP1: the zero value is an empty set like any other.
 func (k kind[S]) testZeroValue(t *testing.T) {
 	var s S
 	k.check(t, "zero", s, nil)
@@ -296,7 +312,7 @@ func (k kind[S]) testZeroValue(t *testing.T) {
 	k.check(t, "dropped and put", s.Drop(4).Put(4), []int{4})
 }
 
-// AV1, RB1, WB1, TP1: a set that has been emptied is an empty set like any other, in whatever order its numbers were
+// AV1, RB1, WB1, TP1, SP1: a set that has been emptied is an empty set like any other, in whatever order its numbers were
 // dropped.
 func (k kind[S]) testEmptied(t *testing.T) {
 	for _, numbers := range samples.Lists() {
@@ -314,7 +330,7 @@ func (k kind[S]) testEmptied(t *testing.T) {
 	}
 }
 
-// AV1, RB1, WB1, TP1: a set with x is the same with x.
+// AV1, RB1, WB1, TP1, SP1: a set with x is the same with x.
 func (k kind[S]) testThereAlready(t *testing.T) {
 	for _, numbers := range samples.Lists() {
 		s := k.of(numbers)
@@ -325,7 +341,7 @@ func (k kind[S]) testThereAlready(t *testing.T) {
 	}
 }
 
-// AV1, RB1, WB1, TP1: a set without x is the same without x.
+// AV1, RB1, WB1, TP1, SP1: a set without x is the same without x.
 func (k kind[S]) testNotThere(t *testing.T) {
 	for _, numbers := range samples.Lists() {
 		s := k.of(numbers)
@@ -339,7 +355,7 @@ func (k kind[S]) testNotThere(t *testing.T) {
 	}
 }
 
-// AV1, AV2, RB1, RB2, WB1, WB2, TP1, TP2: the order in which numbers are put and dropped does not matter.
+// AV1, AV2, RB1, RB2, WB1, WB2, TP1, TP2, SP1, SP2: the order in which numbers are put and dropped does not matter.
 func (k kind[S]) testOrders(t *testing.T) {
 	order := []int{1, 2, 3, 4, 5, 6, 7}
 	whole := k.of(order)
@@ -357,8 +373,8 @@ func (k kind[S]) testOrders(t *testing.T) {
 	walk(0, none, whole)
 }
 
-// AV1, AV2, RB1, RB2, WB1, WB2, TP1, TP2: every tree of some of 8 numbers that any puts and drops lead to, and each
-// further one from there.
+// AV1, AV2, RB1, RB2, WB1, WB2, TP1, TP2, SP1, SP2: every tree of some of 8 numbers that any puts and drops lead to, and
+// each further one from there.
 func (k kind[S]) testAllShapes(t *testing.T) {
 	const most = 8
 	var none S
@@ -388,8 +404,8 @@ func (k kind[S]) testAllShapes(t *testing.T) {
 	}
 }
 
-// AV1, AV2, RB1, RB2, WB1, WB2, TP1, TP2: a long line of sets, of which each is made from the one before, and all of
-// which stay as they were.
+// AV1, AV2, RB1, RB2, WB1, WB2, TP1, TP2, SP1, SP2: a long line of sets, of which each is made from the one before, and
+// all of which stay as they were.
 func (k kind[S]) testLongLine(t *testing.T) {
 	const steps, numbers = 3000, 400
 	var s S

@@ -88,16 +88,6 @@ func chosenOf(numbers []int, f func(x int) bool) []int {
 	return slices.DeleteFunc(slices.Clone(numbers), func(x int) bool { return !f(x) })
 }
 
-// near returns the numbers with their neighbours, and the edges of ints.
-func near(numbers []int) []int {
-	all := []int{0, api.Least, api.Greatest}
-	for _, x := range numbers {
-		// The neighbours of the edges of ints are those of the other edge.
-		all = append(all, x-1, x, x+1)
-	}
-	return search.Distinct(all)
-}
-
 // WB2: each way in which one side gets too heavy, worked by hand.
 func TestTurns(t *testing.T) {
 	for _, test := range []struct {
@@ -173,7 +163,7 @@ func testBeside(t *testing.T, left, right *search.Tree, n, m int) {
 func TestSplit(t *testing.T) {
 	test := func(s Set) {
 		numbers, shape := s.Ints(), s.Shape()
-		for _, x := range near(numbers) {
+		for _, x := range samples.Near(numbers) {
 			name := fmt.Sprint(shape, " at ", x)
 			one, has, two := s.Split(x)
 			check(t, name, one, chosenOf(numbers, func(y int) bool { return y < x }))
@@ -321,7 +311,7 @@ func TestRankAt(t *testing.T) {
 	test := func(s Set) {
 		numbers := s.Ints()
 		n := len(numbers)
-		for _, x := range near(numbers) {
+		for _, x := range samples.Near(numbers) {
 			if got, want := s.Rank(x), len(chosenOf(numbers, func(y int) bool { return y < x })); got != want {
 				t.Errorf("Rank %d is %d, want %d in %v", x, got, want, s.Shape())
 			}
