@@ -117,10 +117,7 @@ func TestPopZero(t *testing.T) {
 func TestAtOutside(t *testing.T) {
 	for _, numbers := range samples.Lists() {
 		l := Of(numbers)
-		for _, i := range []int{-1, -2, -len(numbers), api.Least, len(numbers), len(numbers) + 1, api.Greatest} {
-			if i == 0 && len(numbers) > 0 {
-				continue
-			}
+		for _, i := range samples.Outside(len(numbers)) {
 			if x, has := l.At(i); x != 0 || has {
 				t.Errorf("At(%d) of %v is %d %v, want 0 false", i, numbers, x, has)
 			}

@@ -82,11 +82,6 @@ func checkNone(t *testing.T, name string, l List) {
 	checkHere(t, name, rest, nil)
 }
 
-// outside are indices that a list of n numbers does not have.
-func outside(n int) []int {
-	return []int{-1, -2, -n - 1, api.Least, api.Least + 1, n, n + 1, 2*n + 1, 1 << 40, api.Greatest}
-}
-
 // set returns the numbers with x at index i.
 func set(numbers []int, i, x int) []int {
 	changed := slices.Clone(numbers)
@@ -238,7 +233,7 @@ func TestSetThenMove(t *testing.T) {
 func TestOutside(t *testing.T) {
 	for _, numbers := range samples.Lists() {
 		l := Of(numbers)
-		for _, i := range outside(len(numbers)) {
+		for _, i := range samples.Outside(len(numbers)) {
 			if x, has := l.At(i); x != 0 || has {
 				t.Errorf("At(%d) of %v is %d %v, want 0 false", i, numbers, x, has)
 			}

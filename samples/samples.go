@@ -52,6 +52,14 @@ func Rising(n int) []int {
 	return l
 }
 
+// Outside returns indices that a list of n numbers does not have.
+func Outside(n int) []int {
+	return []int{
+		api.Least, api.Least + 1, -n - 2, -n - 1, -2, -1,
+		n, n + 1, 2*n + 1, 1 << 32, 1 << 40, api.Greatest - 1, api.Greatest,
+	}
+}
+
 // Near returns the numbers with their neighbours, and the edges of ints, once each in ascending order.
 func Near(numbers []int) []int {
 	all := []int{0, api.Least, api.Greatest}

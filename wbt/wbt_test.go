@@ -321,8 +321,8 @@ func TestRankAt(t *testing.T) {
 				t.Errorf("At %d is %d, %v in %v", i, x, has, s.Shape())
 			}
 		}
-		for _, i := range []int{api.Least, api.Least + 1, -n - 1, -n, -2, -1, n, n + 1, 2 * n, 2*n + 1, api.Greatest - 1, api.Greatest} {
-			if x, has := s.At(i); (x != 0 || has) && (i < 0 || i >= n) {
+		for _, i := range samples.Outside(n) {
+			if x, has := s.At(i); x != 0 || has {
 				t.Errorf("At %d is %d, %v in %v", i, x, has, s.Shape())
 			}
 		}
